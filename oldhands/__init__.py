@@ -1,0 +1,1 @@
+"""Oldhands: kept records that every version reads."""

@@ -1,0 +1,174 @@
+"""The package keeps to its small part of Python, and its files stand as they must."""
+
+import ast
+import pathlib
+import re
+import unittest
+
+PACKAGE = pathlib.Path(__file__).resolve().parent.parent / "oldhands"
+
+NODES = """
+Module FunctionDef ClassDef arguments arg Return Assign AugAssign For While If Raise Try ImportFrom alias Expr Pass
+Break Continue ExceptHandler BoolOp BinOp UnaryOp Lambda IfExp Dict List Tuple Set ListComp comprehension Compare Call
+keyword JoinedStr FormattedValue Constant Attribute Subscript Name Slice Load Store And Or Add Sub Mult FloorDiv Mod Pow
+LShift RShift BitOr BitXor BitAnd Invert Not UAdd USub Eq NotEq Lt LtE Gt GtE Is IsNot In NotIn
+""".split()
+
+BUILTINS = """
+len range enumerate zip min max sum abs sorted reversed int str bool list tuple dict set frozenset isinstance ord repr
+any all divmod Exception ValueError TypeError KeyError IndexError LookupError ZeroDivisionError ArithmeticError
+OverflowError RuntimeError NotImplementedError AttributeError StopIteration
+""".split()
+
+METHODS = """
+append clear copy count endswith extend find get index insert isalnum isalpha isdigit islower isspace isupper items
+join keys ljust lower lstrip partition pop remove replace reverse rfind rjust rpartition rsplit rstrip setdefault split
+splitlines startswith strip update upper values zfill bit_length
+""".split()
+
+UNUSED = """
+type typing typing_extensions enum Enum IntEnum StrEnum Flag IntFlag Generic Protocol ABC ABCMeta namedtuple NamedTuple
+TypedDict TYPE_CHECKING abstractmethod
+""".split()
+
+FORBIDDEN = re.compile("|".join([rf"\b{word}\b" for word in UNUSED] + ["dataclass", "overload", "contextmanager"]))
+
+
+def files():
+    return sorted(PACKAGE.glob("*.py"))
+
+
+def bound_names(tree):
+    """Every name that a file binds somewhere."""
+    found = set()
+    for node in ast.walk(tree):
+        if isinstance(node, (ast.FunctionDef, ast.ClassDef)):
+            found.add(node.name)
+        elif isinstance(node, ast.arg):
+            found.add(node.arg)
+        elif isinstance(node, ast.alias):
+            found.add(node.asname or node.name)
+        elif isinstance(node, ast.Name) and isinstance(node.ctx, ast.Store):
+            found.add(node.id)
+        elif isinstance(node, ast.ExceptHandler) and node.name:
+            found.add(node.name)
+    return found
+
+
+def own_methods():
+    """Every method that a class of the package has."""
+    found = set()
+    for path in files():
+        for node in ast.walk(ast.parse(path.read_text())):
+            if isinstance(node, ast.ClassDef):
+                found.update(inner.name for inner in node.body if isinstance(inner, ast.FunctionDef))
+    return found
+
+
+class LanguageTest(unittest.TestCase):
+    def each_file(self):
+        self.assertTrue(files())
+        for path in files():
+            text = path.read_text(encoding="utf-8")
+            yield path, text, ast.parse(text)
+
+    def test_only_plain_files_lie_in_the_package(self):
+        for path in PACKAGE.iterdir():
+            if path.name != "__pycache__":
+                self.assertRegex(path.name, r"^(__init__|[a-z][a-z0-9_]*)\.py$")
+        self.assertTrue((PACKAGE / "__init__.py").is_file())
+
+    def test_signs_and_words(self):
+        for path, text, tree in self.each_file():
+            self.assertRegex(text, r"\A[ -~\n]*\Z")
+            self.assertIsNone(FORBIDDEN.search(text))
+
+    def test_sizes(self):
+        for path, text, tree in self.each_file():
+            lines = text.splitlines()
+            self.assertLessEqual(len(lines), 400)
+            self.assertLessEqual(max(map(len, lines)), 120)
+            for node in ast.walk(tree):
+                if isinstance(node, ast.FunctionDef):
+                    self.assertLessEqual(node.end_lineno - node.lineno + 1, 40, node.name)
+
+    def test_forms(self):
+        for path, text, tree in self.each_file():
+            for node in ast.walk(tree):
+                self.assertIn(type(node).__name__, NODES, f"{path.name} {ast.dump(node)}")
+                self.look_at(node)
+
+    def look_at(self, node):
+        if isinstance(node, ast.Constant):
+            self.assertIsInstance(node.value, (int, str, type(None)))
+            self.assertNotIn("%", str(node.value))
+        elif isinstance(node, (ast.FunctionDef, ast.ClassDef)):
+            self.assertFalse(node.decorator_list)
+        elif isinstance(node, ast.arguments):
+            self.assertFalse(node.vararg or node.kwarg or node.kwonlyargs or node.posonlyargs)
+        elif isinstance(node, ast.Assign):
+            self.assertEqual(len(node.targets), 1)
+        elif isinstance(node, (ast.For, ast.While)):
+            self.assertFalse(node.orelse)
+        elif isinstance(node, ast.Try):
+            self.assertFalse(node.finalbody)
+        elif isinstance(node, ast.ListComp):
+            self.assertEqual(len(node.generators), 1)
+            self.assertLessEqual(len(node.generators[0].ifs), 1)
+        elif isinstance(node, ast.Compare):
+            if any(isinstance(sign, (ast.Is, ast.IsNot)) for sign in node.ops):
+                self.assertTrue(any(isinstance(side, ast.Constant) for side in node.comparators))
+
+    def test_top_of_files(self):
+        for path, text, tree in self.each_file():
+            self.assertTrue(ast.get_docstring(tree))
+            once = []
+            for node in tree.body[1:]:
+                self.assertIsInstance(node, (ast.ImportFrom, ast.FunctionDef, ast.ClassDef, ast.Assign))
+                if isinstance(node, ast.Assign):
+                    once.append(node.targets[0].id)
+                    self.assertFalse([n for n in ast.walk(node.value) if isinstance(n, (ast.BinOp, ast.Call))])
+                elif not isinstance(node, ast.ImportFrom):
+                    once.append(node.name)
+            self.assertEqual(len(once), len(set(once)))
+
+    def test_names(self):
+        for path, text, tree in self.each_file():
+            bound = bound_names(tree)
+            for name in bound - {"__init__"}:
+                self.assertRegex(name, r"^[A-Za-z][A-Za-z0-9_]*$")
+                self.assertNotIn(name, dir(__builtins__) if not isinstance(__builtins__, dict) else __builtins__)
+            for node in ast.walk(tree):
+                if isinstance(node, ast.Name):
+                    self.assertTrue(node.id in bound or node.id in BUILTINS, node.id)
+                elif isinstance(node, ast.Call) and isinstance(node.func, ast.Attribute):
+                    self.assertTrue(node.func.attr in METHODS or node.func.attr in own_methods(), node.func.attr)
+
+    def test_imports(self):
+        drawn = {}
+        for path, text, tree in self.each_file():
+            rows = [node for node in ast.walk(tree) if isinstance(node, ast.ImportFrom)]
+            self.assertTrue(all(node in tree.body for node in rows))
+            drawn[path.stem] = [node.module for node in rows]
+            used = {node.id for node in ast.walk(tree) if isinstance(node, ast.Name)}
+            for node in rows:
+                self.assertEqual(node.level, 0)
+                self.assertRegex(node.module, r"^oldhands\.[a-z]+$")
+                source = ast.parse((PACKAGE / (node.module.split(".")[1] + ".py")).read_text())
+                own = {n.name for n in source.body if isinstance(n, (ast.FunctionDef, ast.ClassDef))}
+                own |= {n.targets[0].id for n in source.body if isinstance(n, ast.Assign)}
+                for alias in node.names:
+                    self.assertIn(alias.name, own)
+                    self.assertIn(alias.name, used)
+        self.assertEqual(drawn["__init__"], [])
+        self.assert_no_ring({name: [m.split(".")[1] for m in some] for name, some in drawn.items()})
+
+    def assert_no_ring(self, drawn):
+        while drawn:
+            free = [name for name, some in drawn.items() if not any(other in drawn for other in some)]
+            self.assertTrue(free, drawn)
+            drawn = {name: some for name, some in drawn.items() if name not in free}
+
+
+if __name__ == "__main__":
+    unittest.main()
