@@ -144,6 +144,20 @@ class LanguageTest(unittest.TestCase):
                 elif isinstance(node, ast.Call) and isinstance(node.func, ast.Attribute):
                     self.assertTrue(node.func.attr in METHODS or node.func.attr in own_methods(), node.func.attr)
 
+    def test_parameters_and_locals_are_called_unlike_imports(self):
+        for path, text, tree in self.each_file():
+            drawn = {alias.name for node in tree.body if isinstance(node, ast.ImportFrom) for alias in node.names}
+            for node in tree.body:
+                if isinstance(node, (ast.FunctionDef, ast.ClassDef)):
+                    self.assertFalse(drawn & bound_names(node), f"{path.name} {node.name}")
+
+    def test_lists_and_dicts_of_the_top_hold_no_others(self):
+        for path, text, tree in self.each_file():
+            for node in tree.body:
+                if isinstance(node, ast.Assign):
+                    held = [inner for inner in ast.walk(node.value) if isinstance(inner, (ast.List, ast.Dict, ast.Set))]
+                    self.assertLessEqual(len(held), 1)
+
     def test_imports(self):
         drawn = {}
         for path, text, tree in self.each_file():
