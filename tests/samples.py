@@ -76,6 +76,25 @@ def all_values(kind, signs="a-"):
             return found
 
 
+def some_value(kind, chance, signs="ab-.1"):
+    """Some value of a kind, drawn by a chance that is handed in, its texts of these signs alone."""
+    match kind:
+        case ("number", low, high):
+            return chance.randint(low, high)
+        case ("text", most):
+            return "".join(chance.choice(signs) for at in range(chance.randint(0, most)))
+        case ("choice", words):
+            return chance.choice(words)
+        case ("list", inner, most):
+            return items(*[some_value(inner, chance, signs) for at in range(chance.randint(0, most))])
+        case ("record", fields):
+            return ("record", tuple((name, some_value(inner, chance, signs)) for name, inner in fields))
+        case ("rows", key, inner, most):
+            drawn = [some_value(inner, chance, signs) for at in range(chance.randint(0, most))]
+            by_key = {dict(one[1])[key]: one for one in drawn}
+            return rows(*[by_key[own] for own in sorted(by_key)])
+
+
 def all_paths(kind):
     """Every path that leads from a kind."""
     match kind:

@@ -26,6 +26,12 @@ join keys ljust lower lstrip partition pop remove replace reverse rfind rjust rp
 splitlines startswith strip update upper values zfill bit_length
 """.split()
 
+# What a class may have with two underscores, and what no value of an object is called.
+DOUBLE = ("__init__", "__eq__", "__repr__", "__str__", "__len__")
+NO_VALUES = """
+items keys values pop update append clear extend insert remove reverse setdefault sort args encode format
+""".split()
+
 UNUSED = """
 type typing typing_extensions enum Enum IntEnum StrEnum Flag IntFlag Generic Protocol ABC ABCMeta namedtuple NamedTuple
 TypedDict TYPE_CHECKING abstractmethod
@@ -63,6 +69,11 @@ def own_methods():
             if isinstance(node, ast.ClassDef):
                 found.update(inner.name for inner in node.body if isinstance(inner, ast.FunctionDef))
     return found
+
+
+def stored_values(tree):
+    """Every attribute that a file gives a value."""
+    return {node.attr for node in ast.walk(tree) if isinstance(node, ast.Attribute) and isinstance(node.ctx, ast.Store)}
 
 
 class LanguageTest(unittest.TestCase):
@@ -157,6 +168,26 @@ class LanguageTest(unittest.TestCase):
                 if isinstance(node, ast.Assign):
                     held = [inner for inner in ast.walk(node.value) if isinstance(inner, (ast.List, ast.Dict, ast.Set))]
                     self.assertLessEqual(len(held), 1)
+
+    def test_classes(self):
+        for path, text, tree in self.each_file():
+            for node in ast.walk(tree):
+                if isinstance(node, ast.ClassDef):
+                    self.assertIn(node, tree.body)
+                    self.assertLessEqual(len(node.bases), 1)
+                    self.assertTrue(ast.get_docstring(node))
+                    names = [inner.name for inner in node.body[1:]]
+                    self.assertEqual(len(names), len(set(names)))
+                    self.assertFalse([name for name in names if name.startswith("_") and name not in DOUBLE])
+
+    def test_no_name_is_a_method_and_a_value(self):
+        for path, text, tree in self.each_file():
+            stored = stored_values(tree)
+            self.assertFalse(stored & own_methods())
+            self.assertFalse(stored & set(NO_VALUES))
+            for node in ast.walk(tree):
+                if isinstance(node, ast.Attribute) and isinstance(node.ctx, ast.Store):
+                    self.assertIsInstance(node.value, ast.Name)
 
     def test_imports(self):
         drawn = {}

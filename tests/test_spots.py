@@ -8,6 +8,7 @@ from oldhands.shapes import kind_at
 from oldhands.spots import spots, value_at, wheres, with_values
 from oldhands.values import is_of
 from samples import all_paths, items, rec, record, rows
+from ways import plain_places
 
 NUMBER = ("number", -99, 99)
 TEXT = ("text", 6)
@@ -40,22 +41,6 @@ VALUE = rec(
     m=items(rows(rec(n=1, t="b"), rec(n=0, t="c")), rows(), rows(rec(n=1, t="a"))),
 )
 NONE = rec(a=0, b=items(), c=rows(), d=rows(), e=rec(x="", y="red"), g=items(), m=items())
-
-
-def plain_places(kind, value, path):
-    """The document's words for places once more: a dict of the values by their wheres, in order."""
-    found = {(): (kind, value)}
-    for step in path:
-        ahead, found = found, {}
-        for where, (kind, value) in ahead.items():
-            match kind, step:
-                case ("list", inner, _), "each":
-                    found.update({where + (at,): (inner, one) for at, one in enumerate(value[1])})
-                case ("rows", key, inner, _), "each":
-                    found.update({where + (dict(one[1])[key],): (inner, one) for one in value[1]})
-                case ("record", fields), name:
-                    found[where + (name,)] = (dict(fields)[name], dict(value[1])[name])
-    return {where: value for where, (kind, value) in found.items()}
 
 
 class WheresTest(unittest.TestCase):
