@@ -18,8 +18,9 @@ class Versions:
             shapes.append(shape_behind(change, shapes[-1]))
         if len(changes) > MOST_CHANGES:
             raise Full("there are too many changes")
-        self.all_shapes = shapes
-        self.all_changes = list(changes)
+        # Tuples, so that versions may be shared: nothing of them can be changed.
+        self.all_shapes = tuple(shapes)
+        self.all_changes = tuple(changes)
 
     def shape(self, number):
         """The shape of a version; refused with BadVersion."""
@@ -35,7 +36,7 @@ class Versions:
 
     def grown(self, change):
         """Versions with one change more; refused as when versions are made."""
-        return Versions(self.all_shapes[0], self.all_changes + [change])
+        return Versions(self.all_shapes[0], self.all_changes + (change,))
 
 
 def made_shape(kind):

@@ -103,3 +103,21 @@ def all_paths(kind):
         case ("record", fields):
             return [()] + [(name,) + path for name, inner in fields for path in all_paths(inner)]
     return [()]
+
+
+def nudged(kind, value, chance, signs="ab-.1"):
+    """The value with some little thing within it another one, or the same."""
+    match kind:
+        case ("record", fields) if fields:
+            at = chance.randrange(len(fields))
+            name, inner = value[1][at]
+            return put_at(value, (1, at, 1), nudged(fields[at][1], inner, chance, signs))
+        case ("list", inner, most) if value[1] and chance.random() < 0.7:
+            at = chance.randrange(len(value[1]))
+            return put_at(value, (1, at), nudged(inner, value[1][at], chance, signs))
+        case ("rows", key, inner, most) if value[1] and chance.random() < 0.7:
+            at = chance.randrange(len(value[1]))
+            some = put_at(value[1], (at,), nudged(inner, value[1][at], chance, signs))
+            by_key = {dict(one[1])[key]: one for one in some}
+            return rows(*[by_key[own] for own in sorted(by_key)])
+    return some_value(kind, chance, signs)

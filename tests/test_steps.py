@@ -4,57 +4,15 @@ import unittest
 
 from oldhands.changes import change_about, shape_behind
 from oldhands.leading import led
-from oldhands.pieces import made_values, new_values, old_values, piece_about, record_behind, with_new
-from oldhands.shapes import kind_at
 from oldhands.steps import fit, step, step_paper
 from oldhands.values import is_of
 from samples import items, rec, record, rows
-from ways import WAYS, all_changes, plain_places, plain_rest, plain_with
+from ways import WAYS, all_changes, plain_fit, plain_step
 
 SAMPLES = all_changes()
 NUMBER = ("number", -9, 9)
 TEXT = ("text", 3)
 CHOICE = ("choice", ("red", "blue"))
-
-
-def plain_values_fit(piece, kind, old, new):
-    """Whether the new values are what the old ones are led to, or these what the new ones are led back to."""
-    if made_values(piece, kind, old) == new:
-        return True
-    return made_values(piece_about(piece, kind), record_behind(piece, kind), new) == old
-
-
-def plain_fit(change, shape, one, other):
-    """The document's words for fitting, one after the other."""
-    path, piece = change
-    kind = kind_at(shape, path)
-    ours, theirs = plain_places(shape, one, path), plain_places(shape_behind(change, shape), other, path)
-    if list(ours) != list(theirs):
-        return False
-    if plain_with(one, path, lambda spot: plain_rest(piece, spot, 0)) != plain_with(
-            other, path, lambda spot: plain_rest(piece, spot, 1)):
-        return False
-    return all(plain_values_fit(piece, kind, old_values(piece, ours[where]), new_values(piece, theirs[where]))
-               for where in ours)
-
-
-def plain_step(change, shape, one, memory):
-    """What a step tells, and its paper."""
-    path, piece = change
-    kind = kind_at(shape, path)
-    theirs = plain_places(shape_behind(change, shape), memory, path)
-    paper, done = [], []
-    for where, spot in plain_places(shape, one, path).items():
-        old = old_values(piece, spot)
-        new = new_values(piece, theirs[where]) if where in theirs else None
-        if where in theirs and plain_values_fit(piece, kind, old, new):
-            paper.append((where, "kept"))
-        else:
-            new = made_values(piece, kind, old)
-            paper.append((where, "made"))
-        done.append(with_new(piece, kind, spot, new))
-    done.reverse()
-    return plain_with(one, path, lambda spot: done.pop()), paper
 
 
 def pairs(sample, most=2):

@@ -6,58 +6,11 @@ import unittest
 
 from oldhands.changes import change_about, shape_behind
 from oldhands.errors import BadKind, BadPath, BadPiece, BadTurn, BadValue, BadVersion, Full
-from oldhands.kinds import made_kind
 from oldhands.leading import led, lost
 from oldhands.values import is_of
 from oldhands.versions import Versions, led_between, lost_between, restored_between
+from chains import ALL, CHANGES, CHOICE, FIRST, LINE, NUMBER, RECORD, SHAPES, TEXT
 from samples import deep, items, letters, rec, record, rows, some_value
-
-NUMBER = ("number", -9, 9)
-TEXT = ("text", 5)
-CHOICE = ("choice", ("red", "blue"))
-LINE = record(k=TEXT, n=NUMBER)
-FIRST = made_kind(record(a=NUMBER, c=CHOICE, l=("list", record(n=NUMBER), 4), r=("rows", "k", LINE, 4), t=TEXT))
-
-# Changes of every piece, some of which lose on, some back, some both; in all twenty.
-CHANGES = (
-    ((), ("turn", "a", ("bounds", -5, 20))),
-    (("l", "each"), ("turn", "n", ("scale", 10))),
-    (("r", "each"), ("drop", "n", 0)),
-    ((), ("split", "t", "-", "t", "u")),
-    ((), ("put", "x", NUMBER, 4)),
-    ((), ("name", "x", "y")),
-    (("r", "each"), ("put", "m", record(), rec())),
-    (("r", "each", "m"), ("put", "z", CHOICE, "blue")),
-    (("r", "each"), ("lift", "m", "z")),
-    ((), ("turn", "c", ("words", ("x", "x"), (("x", "blue"),)))),
-    ((), ("part", "a", 3, "a", "b")),
-    (("l", "each"), ("put", "s", TEXT, "q")),
-    (("l", "each"), ("turn", "n", ("bounds", -20, 20))),
-    ((), ("join", "u", "t", ".", "t")),
-    ((), ("turn", "l", ("first", 2))),
-    ((), ("drop", "c", "x")),
-    ((), ("whole", "a", "b", 3, "a", -5, 20)),
-    (("r", "each"), ("sink", "z", "m")),
-    ((), ("turn", "t", ("cut", 2))),
-    ((), ("turn", "y", ("figures", 2))),
-)
-ALL = Versions(FIRST, CHANGES)
-RECORD = rec(
-    a=-9, c="red", l=items(rec(n=3), rec(n=-7), rec(n=9)), r=rows(rec(k="", n=4), rec(k="p", n=0), rec(k="q", n=-1)),
-    t="ab-c",
-)
-
-
-
-
-def plain_shapes(first, changes):
-    found = [first]
-    for change in changes:
-        found.append(shape_behind(change, found[-1]))
-    return found
-
-
-SHAPES = plain_shapes(FIRST, CHANGES)
 
 
 def plain_steps(start, goal):
