@@ -67,3 +67,9 @@ class Store:
     def versions(self):
         """The versions as they are now."""
         return self.now_versions
+
+    def copied(self):
+        """A store of its own that holds what this one holds."""
+        other = Store(self.now_versions)
+        other.by_key = dict(self.by_key)
+        return other
