@@ -51,3 +51,32 @@ class NoDeed(HandError):
 
 class Full(HandError):
     """One more than there may be."""
+
+
+def refusal_name(refusal):
+    """The name of a refusal's class."""
+    if isinstance(refusal, BadKind):
+        return "BadKind"
+    if isinstance(refusal, BadValue):
+        return "BadValue"
+    if isinstance(refusal, BadPath):
+        return "BadPath"
+    if isinstance(refusal, BadTurn):
+        return "BadTurn"
+    if isinstance(refusal, BadPiece):
+        return "BadPiece"
+    if isinstance(refusal, BadVersion):
+        return "BadVersion"
+    if isinstance(refusal, BadText):
+        return "BadText"
+    if isinstance(refusal, BadQuestion):
+        return "BadQuestion"
+    if isinstance(refusal, NoRecord):
+        return "NoRecord"
+    if isinstance(refusal, Taken):
+        return "Taken"
+    if isinstance(refusal, NoDeed):
+        return "NoDeed"
+    if isinstance(refusal, Full):
+        return "Full"
+    return "HandError"

@@ -1,6 +1,7 @@
 """The package keeps to its small part of Python, and its files stand as they must."""
 
 import ast
+import functools
 import pathlib
 import re
 import unittest
@@ -61,6 +62,7 @@ def bound_names(tree):
     return found
 
 
+@functools.cache
 def own_methods():
     """Every method that a class of the package has."""
     found = set()
@@ -74,6 +76,33 @@ def own_methods():
 def stored_values(tree):
     """Every attribute that a file gives a value."""
     return {node.attr for node in ast.walk(tree) if isinstance(node, ast.Attribute) and isinstance(node.ctx, ast.Store)}
+
+
+def with_parents(tree):
+    """Pairs of a node and the nodes above it, the nearest first."""
+    found = []
+    pending = [(tree, ())]
+    while pending:
+        node, above = pending.pop()
+        found.append((node, above))
+        pending.extend((inner, (node,) + above) for inner in ast.iter_child_nodes(node))
+    return found
+
+
+def called_name(node):
+    """The name that a node calls, None where it calls none."""
+    return node.func.id if isinstance(node, ast.Call) and isinstance(node.func, ast.Name) else None
+
+
+@functools.cache
+def top_tables():
+    """The names of lists and dicts that some file's top has."""
+    found = set()
+    for path in files():
+        for node in ast.parse(path.read_text()).body:
+            if isinstance(node, ast.Assign) and isinstance(node.value, (ast.List, ast.Dict)):
+                found.add(node.targets[0].id)
+    return found
 
 
 class LanguageTest(unittest.TestCase):
@@ -188,6 +217,82 @@ class LanguageTest(unittest.TestCase):
             for node in ast.walk(tree):
                 if isinstance(node, ast.Attribute) and isinstance(node.ctx, ast.Store):
                     self.assertIsInstance(node.value, ast.Name)
+
+    def each_node(self):
+        for path, text, tree in self.each_file():
+            for node, above in with_parents(tree):
+                yield f"{path.name} {getattr(node, 'lineno', 0)}", node, above
+
+    def test_f_strings_hold_plain_names(self):
+        for told, node, above in self.each_node():
+            if isinstance(node, ast.FormattedValue):
+                self.assertIsInstance(node.value, ast.Name, told)
+                self.assertIsNone(node.format_spec, told)
+
+    def test_assignments_have_one_plain_target(self):
+        for told, node, above in self.each_node():
+            if isinstance(node, ast.Assign):
+                self.assertIsInstance(node.targets[0], (ast.Name, ast.Attribute, ast.Subscript), told)
+
+    def test_tables_of_the_top_are_only_read(self):
+        for told, node, above in self.each_node():
+            if isinstance(node, ast.Name) and isinstance(node.ctx, ast.Load) and node.id in top_tables():
+                outer = above[0]
+                read = isinstance(outer, ast.Subscript) and outer.value is node and isinstance(outer.ctx, ast.Load)
+                read |= isinstance(outer, ast.Compare) and node in outer.comparators
+                read |= isinstance(outer, (ast.For, ast.comprehension)) and outer.iter is node
+                read |= isinstance(outer, ast.Attribute) and outer.attr in ("get", "items", "keys", "values")
+                read |= called_name(outer) in ("len", "list", "dict", "sorted", "tuple")
+                self.assertTrue(read, told)
+
+    def test_walked_at_once(self):
+        for told, node, above in self.each_node():
+            is_view = isinstance(node, ast.Call) and isinstance(node.func, ast.Attribute) and node.func.attr in (
+                "items", "keys", "values")
+            if called_name(node) in ("zip", "enumerate", "reversed", "range") or is_view:
+                outer = above[0]
+                walked = isinstance(outer, (ast.For, ast.comprehension)) and outer.iter is node
+                walked |= called_name(outer) in (
+                    "list", "tuple", "dict", "sorted", "sum", "any", "all", "enumerate",
+                    "zip") and outer.args[0] is node
+                walked |= called_name(outer) in ("min", "max") and outer.args == [node]
+                self.assertTrue(walked, told)
+
+    def test_sets_are_not_kept(self):
+        for told, node, above in self.each_node():
+            self.assertNotIsInstance(node, ast.SetComp, told)
+            if called_name(node) in ("set", "frozenset"):
+                outer = above[0]
+                self.assertTrue(isinstance(outer, ast.Compare) or called_name(outer) in ("sorted", "len"), told)
+
+    def test_powers_and_keywords(self):
+        allowed = {"sorted": ("key", "reverse"), "min": ("key", "default"), "max": ("key", "default"),
+                   "sum": ("start",),
+                   "enumerate": ("start",), "zip": ("strict",)}
+        for told, node, above in self.each_node():
+            if isinstance(node, ast.BinOp) and isinstance(node.op, ast.Pow):
+                self.assertIsInstance(node.right, ast.Constant, told)
+                self.assertIn(node.right.value, range(65), told)
+            if isinstance(node, ast.Call) and node.keywords:
+                self.assertLessEqual({one.arg for one in node.keywords}, set(allowed.get(called_name(node), ())), told)
+
+    def test_classes_are_called_or_looked_for(self):
+        classes = {node.name for told, node, above in self.each_node() if isinstance(node, ast.ClassDef)}
+        for told, node, above in self.each_node():
+            if isinstance(node, ast.Name) and node.id in classes:
+                outer = above[1] if isinstance(above[0], ast.Tuple) else above[0]
+                good = isinstance(outer, (ast.ExceptHandler, ast.ClassDef, ast.Raise))
+                good |= isinstance(outer, ast.Call) and (outer.func is node or called_name(outer) == "isinstance")
+                self.assertTrue(good, told)
+
+    def test_errors_are_the_programs_own(self):
+        classes = {node.name for told, node, above in self.each_node() if isinstance(node, ast.ClassDef)}
+        for told, node, above in self.each_node():
+            if isinstance(node, ast.ExceptHandler):
+                some = node.type.elts if isinstance(node.type, ast.Tuple) else [node.type]
+                self.assertLessEqual({one.id for one in some}, classes, told)
+            if isinstance(node, ast.Raise):
+                self.assertIn(called_name(node.exc), classes, told)
 
     def test_imports(self):
         drawn = {}
